@@ -1,0 +1,1 @@
+"""Densest parts of a small graph: denseparts.graphs.answers is the way in."""
