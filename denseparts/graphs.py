@@ -6,11 +6,18 @@ CUT = 2
 DENSEST = 3
 DENSITY = 4
 CORE = 5
+CORES = 6
+PEEL = 7
+TURNED = 8
+FORESTS = 9
+TIGHT = 10
+EDGES = 11
 
 MOST_NODES = 10
 MOST_EDGES = 20
 
 WRONG_NODES = -1
+WRONG_K = -1
 NO_SUCH_EDGE = -2
 NO_NODES = -3
 FULL = -5
@@ -45,9 +52,9 @@ def answers(calls):
 def call_length(calls, place):
     """How many numbers the call that begins at this place takes up in the list."""
     number = calls[place]
-    if number == NODE or number == DENSEST:
+    if number in (NODE, DENSEST, CORES, PEEL, TURNED, FORESTS, EDGES):
         return 1
-    if number == CUT or number == CORE:
+    if number in (CUT, CORE, TIGHT):
         return 2
     if number == EDGE:
         return 3
@@ -69,7 +76,19 @@ def answer(graph, call):
         return tell_densest(graph)
     if number == DENSITY:
         return tell_density(graph, call[2:])
-    return tell_core(graph, call[1])
+    if number == CORE:
+        return counted(core_members(graph, call[1]))
+    if number == CORES:
+        return node_cores(graph)
+    if number == PEEL:
+        return tell_peel(graph)
+    if number == TURNED:
+        return tell_turned(graph)
+    if number == FORESTS:
+        return [fewest_forests(graph)]
+    if number == TIGHT:
+        return tell_tight(graph, call[1])
+    return tell_edges(graph)
 
 
 def add_node(graph):
@@ -100,7 +119,7 @@ def tell_densest(graph):
     if graph.node_count == 0:
         return [NO_NODES]
     members = densest_part(graph)
-    return lowest_terms(edges_within(graph, members), len(members)) + [len(members)] + members
+    return lowest_terms(edges_within(graph, members), len(members)) + counted(members)
 
 
 def tell_density(graph, nodes):
@@ -110,8 +129,35 @@ def tell_density(graph, nodes):
     return [within] + lowest_terms(within, len(nodes))
 
 
-def tell_core(graph, k):
-    members = core_members(graph, k)
+def tell_peel(graph):
+    told = [graph.node_count]
+    left = all_nodes(graph)
+    while len(left) > 0:
+        node = first_to_go(graph, left)
+        told.extend([node, edges_to(graph, node, left)])
+        left.remove(node)
+    return told
+
+
+def tell_turned(graph):
+    most = fewest_at_most(graph)
+    return [most] + first_turned(graph, most)
+
+
+def tell_tight(graph, k):
+    if k == 0:
+        return [WRONG_K]
+    return counted(tight_nodes(graph, k))
+
+
+def tell_edges(graph):
+    told = [len(graph.ends)]
+    for x, y in graph.ends:
+        told.extend([x, y])
+    return told
+
+
+def counted(members):
     return [len(members)] + members
 
 
@@ -142,6 +188,11 @@ def all_parts(graph):
     return parts
 
 
+def wider_parts(graph):
+    """The parts of two nodes or more."""
+    return [part for part in all_parts(graph) if len(part) > 1]
+
+
 def edges_within(graph, part):
     count = 0
     for x, y in graph.ends:
@@ -168,6 +219,10 @@ def lowest_terms(above, below):
         divisor = rest
         rest = smaller
     return [above // divisor, below // divisor]
+
+
+def divided_upwards(above, below):
+    return (above + below - 1) // below
 
 
 def densest_part(graph):
@@ -201,3 +256,70 @@ def core_members(graph, k):
 def having_edges(graph, left, k):
     """Those that have k edges or more within those that are left."""
     return [node for node in left if edges_to(graph, node, left) >= k]
+
+
+def node_cores(graph):
+    """Each node's core, in order."""
+    found = [0] * graph.node_count
+    k = 1
+    members = core_members(graph, k)
+    while len(members) > 0:
+        # Each core lies within the one before it, so the last that has a node is the greatest.
+        for node in members:
+            found[node - 1] = k
+        k += 1
+        members = core_members(graph, k)
+    return found
+
+
+def first_to_go(graph, left):
+    """The node with the fewest edges to those that are left, which rise; of several the lowest."""
+    counts = [edges_to(graph, node, left) for node in left]
+    return left[counts.index(min(counts))]
+
+
+def fewest_at_most(graph):
+    """How many edges lead, at the least, to the node to which the most do."""
+    # By Hakimi: the edges within a part lead into it however they are turned, and the densest part decides.
+    return max([divided_upwards(edges_within(graph, part), len(part)) for part in all_parts(graph)], default=0)
+
+
+def first_turned(graph, most):
+    """For each edge the node to which it leads, the first way in which to no node more than most lead."""
+    parts = all_parts(graph)
+    # How many more edges than those that must lead into it each part can take. By Hakimi the edges that aren't
+    # turned yet can be turned as long as no part has less than no room.
+    room = [most * len(part) - edges_within(graph, part) for part in parts]
+    led_to = []
+    for x, y in graph.ends:
+        low = min(x, y)
+        high = max(x, y)
+        end = low
+        taking = places_parting(parts, low, high)
+        if any([room[place] == 0 for place in taking]):
+            end = high
+            taking = places_parting(parts, high, low)
+        for place in taking:
+            room[place] -= 1
+        led_to.append(end)
+    return led_to
+
+
+def places_parting(parts, inner, outer):
+    """Where the parts stand that have the inner node and not the outer one."""
+    return [place for place, part in enumerate(parts) if inner in part and outer not in part]
+
+
+def fewest_forests(graph):
+    """Into how many forests, at the least, all edges can be laid."""
+    # By Nash-Williams: a forest takes one edge fewer than a part has nodes, and the part that needs the most decides.
+    return max([divided_upwards(edges_within(graph, part), len(part) - 1) for part in wider_parts(graph)], default=0)
+
+
+def tight_nodes(graph, k):
+    """The nodes that are in some part of two nodes or more with k edges within for each node but one, rising."""
+    members = []
+    for part in wider_parts(graph):
+        if edges_within(graph, part) >= k * (len(part) - 1):
+            members.extend(part)
+    return sorted(set(members))

@@ -2,7 +2,8 @@
 
 from denseparts.graphs import answers
 
-NUMBERS = {"node": 0, "edge": 1, "cut": 2, "densest": 3, "density": 4, "core": 5}
+NUMBERS = {"node": 0, "edge": 1, "cut": 2, "densest": 3, "density": 4, "core": 5, "cores": 6, "peel": 7, "turned": 8,
+           "forests": 9, "tight": 10, "edges": 11}
 
 
 def node():
@@ -27,6 +28,30 @@ def density(*nodes):
 
 def core(k):
     return [NUMBERS["core"], k]
+
+
+def cores():
+    return [NUMBERS["cores"]]
+
+
+def peel():
+    return [NUMBERS["peel"]]
+
+
+def turned():
+    return [NUMBERS["turned"]]
+
+
+def forests():
+    return [NUMBERS["forests"]]
+
+
+def tight(k):
+    return [NUMBERS["tight"], k]
+
+
+def tell_edges():
+    return [NUMBERS["edges"]]
 
 
 def nodes(count):

@@ -1,10 +1,8 @@
 """Promise 2 as far as densest and density go, and core."""
 
 import unittest
-from itertools import combinations, combinations_with_replacement
-from random import Random
+from itertools import combinations
 
-from tests import reference
 from tests.asking import ask, core, cut, densest, density, edge, edges, last, node, nodes
 
 GREATEST = 4294967295
@@ -158,33 +156,3 @@ class Core(unittest.TestCase):
     def test_asking_changes_nothing(self):
         told = ask(*nodes(3), edge(1, 2), core(2), core(1), core(0), node(), edge(1, 2))
         self.assertEqual(told[4:], [[0], [2, 1, 2], [3, 1, 2, 3], [4], [1]])
-
-
-class AgainstTheReference(unittest.TestCase):
-    def check(self, count, pairs):
-        some = reference.parts(count)[:: 1 + count]
-        built = [*nodes(count), *edges(*pairs)]
-        with self.subTest(count=count, pairs=pairs):
-            # Asked in lists of their own, since one list has 40 calls at most.
-            self.assertEqual(last(*built, densest()), reference.densest(count, pairs))
-            for k in range(6):
-                self.assertEqual(last(*built, core(k)), reference.core(count, pairs, k))
-            for part in some[:8]:
-                self.assertEqual(last(*built, density(*sorted(part))), reference.density(pairs, part))
-
-    def test_all_graphs_of_four_nodes_without_several_edges(self):
-        possible = list(combinations(range(1, 5), 2))
-        for size in range(len(possible) + 1):
-            for pairs in combinations(possible, size):
-                self.check(4, pairs)
-
-    def test_all_graphs_of_three_nodes_with_up_to_five_edges(self):
-        for size in range(6):
-            for pairs in combinations_with_replacement([(1, 2), (3, 1), (2, 3)], size):
-                self.check(3, pairs)
-
-    def test_larger_graphs(self):
-        chance = Random(20)
-        for count in (5, 6, 7, 8, 9, 10, 10, 10):
-            for size in (7, 13, 20):
-                self.check(count, [tuple(chance.sample(range(1, count + 1), 2)) for _ in range(size)])

@@ -38,6 +38,18 @@ def trees():
     return [(path.name, ast.parse(path.read_text(encoding="utf-8"))) for path in files()]
 
 
+def walked_with_parents(kind):
+    found = []
+    for name, tree in trees():
+        for parent in ast.walk(tree):
+            found += [(name, parent, child) for child in ast.iter_child_nodes(parent) if isinstance(child, kind)]
+    return found
+
+
+def called(found):
+    return found.func.id if isinstance(found, ast.Call) and isinstance(found.func, ast.Name) else None
+
+
 def walked(*kinds):
     return [(name, found) for name, tree in trees() for found in ast.walk(tree) if isinstance(found, kinds)]
 
@@ -87,7 +99,8 @@ class Language(unittest.TestCase):
 
     def test_parameters_are_plain(self):
         for name, found in walked(ast.arguments):
-            self.assertEqual((found.vararg, found.kwarg, found.kwonlyargs, found.posonlyargs), (None, None, [], []), name)
+            self.assertEqual((found.vararg, found.kwarg), (None, None), name)
+            self.assertEqual((found.kwonlyargs, found.posonlyargs), ([], []), name)
 
     def test_methods_are_those_told_or_own(self):
         own = {inner.name for _, found in walked(ast.ClassDef) for inner in found.body
@@ -100,3 +113,51 @@ class Language(unittest.TestCase):
         for name, found in walked(ast.ImportFrom):
             self.assertEqual(found.level, 0, name)
             self.assertTrue(found.module.startswith("denseparts."), (name, found.lineno))
+
+    def test_the_top_of_a_file(self):
+        for name, tree in trees():
+            bound = []
+            for place, found in enumerate(tree.body):
+                if place == 0:
+                    self.assertIsNotNone(ast.get_docstring(tree), name)
+                elif isinstance(found, ast.Assign):
+                    ast.literal_eval(found.value)
+                    bound += [target.id for target in found.targets]
+                else:
+                    self.assertIsInstance(found, (ast.FunctionDef, ast.ClassDef, ast.ImportFrom), (name, found.lineno))
+                    bound += [found.name] if not isinstance(found, ast.ImportFrom) else []
+            self.assertEqual(len(bound), len(set(bound)), name)
+
+    def test_a_comprehension_has_one_for_and_at_most_one_if(self):
+        for name, found in walked(ast.ListComp):
+            self.assertEqual(len(found.generators), 1, (name, found.lineno))
+            self.assertLessEqual(len(found.generators[0].ifs), 1, (name, found.lineno))
+
+    def test_sets_are_not_kept(self):
+        for name, parent, found in walked_with_parents(ast.Call):
+            if called(found) == "set":
+                self.assertIn(called(parent), ("sorted", "len"), (name, found.lineno))
+
+    def test_what_is_walked_is_walked_at_once(self):
+        for name, parent, found in walked_with_parents(ast.Call):
+            if called(found) in ("zip", "enumerate", "reversed", "range"):
+                looped = isinstance(parent, (ast.For, ast.comprehension)) and parent.iter is found
+                inside = called(parent) in ("list", "tuple", "dict", "sorted", "sum", "any", "all", "enumerate", "zip")
+                self.assertTrue(looped or inside, (name, found.lineno))
+
+    def test_keywords(self):
+        allowed = {"sorted": {"key", "reverse"}, "min": {"key", "default"}, "max": {"key", "default"}, "sum": {"start"},
+                   "enumerate": {"start"}, "zip": {"strict"}}
+        for name, found in walked(ast.Call):
+            named = {keyword.arg for keyword in found.keywords}
+            self.assertLessEqual(named, allowed.get(called(found), set()), (name, found.lineno))
+
+    def test_no_rest_sign_within_a_text(self):
+        for name, found in walked(ast.Constant):
+            if isinstance(found.value, str):
+                self.assertNotIn(chr(37), found.value, (name, found.lineno))
+
+    def test_pythons_own_are_called_and_not_kept(self):
+        for name, parent, found in walked_with_parents(ast.Name):
+            if found.id in ("len", "range", "min", "max", "sum", "any", "all", "sorted", "set", "list", "enumerate"):
+                self.assertTrue(isinstance(parent, ast.Call) and parent.func is found, (name, found.lineno))
